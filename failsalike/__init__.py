@@ -1,0 +1,1 @@
+"""Failsalike: questions that fail as written, in whatever order they are run."""

@@ -1,0 +1,42 @@
+"""Values: nothing, numbers and words, and their order."""
+
+RANGE = 10**12
+KINDS = ("nothing", "number", "word")
+
+
+def is_name(thing):
+    """Whether this is a string of one to eight letters a to z."""
+    if not isinstance(thing, str) or not 1 <= len(thing) <= 8:
+        return False
+    return all(["a" <= letter <= "z" for letter in thing])
+
+
+def is_number(thing):
+    """Whether this is an integer in the range of values."""
+    # Python's bools are ints, but no integers here.
+    if not isinstance(thing, int) or isinstance(thing, bool):
+        return False
+    return -RANGE <= thing <= RANGE
+
+
+def is_value(thing):
+    """Whether this is nothing, a number or a word."""
+    return thing is None or is_number(thing) or is_name(thing)
+
+
+def kind_of(value):
+    """The kind of a value, one of KINDS."""
+    if value is None:
+        return "nothing"
+    if isinstance(value, str):
+        return "word"
+    return "number"
+
+
+def is_before(one, other):
+    """Whether a value comes before another one."""
+    kind, other_kind = kind_of(one), kind_of(other)
+    if kind != other_kind:
+        # The names of the kinds happen to ascend in the order of their values.
+        return kind < other_kind
+    return one is not None and one < other
