@@ -33,10 +33,12 @@ def kind_of(value):
     return "number"
 
 
+def rank_of(value):
+    """What values are sorted by."""
+    # The names of the kinds happen to ascend in the order of their values, and None is only compared with itself.
+    return (kind_of(value), value)
+
+
 def is_before(one, other):
     """Whether a value comes before another one."""
-    kind, other_kind = kind_of(one), kind_of(other)
-    if kind != other_kind:
-        # The names of the kinds happen to ascend in the order of their values.
-        return kind < other_kind
-    return one is not None and one < other
+    return rank_of(one) < rank_of(other)
