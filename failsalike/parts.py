@@ -20,6 +20,8 @@ STEPS = {
 INNER = ("only", "first", "exists")
 # What is made of two conditions.
 BOTH = ("and", "or")
+# What can fail by itself.
+FAILING = ("less", "most", "same", "plus", "only")
 
 
 def at_place(part, place):
@@ -43,6 +45,11 @@ def parts_of(part):
     for step in STEPS[part[0]]:
         found.extend(parts_of(at_place(part, step)))
     return found
+
+
+def may_fail(part):
+    """Whether a term or a condition can fail, by its form."""
+    return any([below[0] in FAILING for below in parts_of(part)])
 
 
 def leaves_of(condition, place):

@@ -19,6 +19,9 @@ INTERFACE = {
     "questions": "is_question part_at main_parts named exchanged",
     "guards": "guarded",
     "written": "combinations result_of written outcome",
+    "storetexts": "show_store read_store",
+    "questiontexts": "show_question read_question",
+    "goals": "goals_of goal_of outcomes_of possible tested",
 }
 # What the classes of the interface define in their own bodies.
 METHODS = {
