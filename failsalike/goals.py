@@ -17,12 +17,17 @@ def goals_of(question):
 
 def goal_of(question, result):
     """The number of the goal of a result; None if where does not hold."""
+    return goal_among(goals_of(question), result)
+
+
+def goal_among(goals, result):
+    """The number of the goal of a result among all goals; None if it is none of them."""
     if result[0] == "none":
         return None
     if result[0] == "match":
         return 0
-    around = [at for at, goal in enumerate(goals_of(question)) if at > 0 and result[2][: len(goal)] == goal]
-    return around[0]
+    around = [at for at, goal in enumerate(goals) if at > 0 and result[2][: len(goal)] == goal]
+    return around[0] if around != [] else None
 
 
 def outcomes_of(question, known, place):

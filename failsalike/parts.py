@@ -64,3 +64,12 @@ def leaves_of(condition, place):
 def inner_refs(part):
     """The refs of all inner questions in a term or a condition, in the order of the text."""
     return [ref for below in parts_of(part) if below[0] in INNER for ref in below[1][0]]
+
+
+def outer_columns(part):
+    """The columns in a term or a condition that stand outside of inner questions."""
+    if part[0] == "column":
+        return [part]
+    if part[0] in INNER:
+        return []
+    return [column for step in STEPS[part[0]] for column in outer_columns(at_place(part, step))]

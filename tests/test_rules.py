@@ -22,6 +22,10 @@ INTERFACE = {
     "storetexts": "show_store read_store",
     "questiontexts": "show_question read_question",
     "goals": "goals_of goal_of outcomes_of possible tested",
+    "atoms": "solution is_contradiction contradiction settled",
+    "papers": "paper_of paper_holds",
+    "ledgers": "shapes_of can_fail alike true_plan never_holds alike_holds true_holds",
+    "paths": "fetched cost",
 }
 # What the classes of the interface define in their own bodies.
 METHODS = {
@@ -141,6 +145,24 @@ class Names(unittest.TestCase):
                     self.assertNotIn(node.id, barred, (path, node.lineno))
                 if isinstance(node, ast.arg):
                     self.assertNotIn(node.arg, barred, (path, node.lineno))
+
+    def test_no_attribute_is_called_like_a_method(self):
+        methods = [node.name for _, tree in trees() for name, node in functions(tree) if name is not None]
+        for path, tree in trees():
+            for node in ast.walk(tree):
+                if isinstance(node, ast.Attribute) and isinstance(node.ctx, ast.Store):
+                    self.assertNotIn(node.attr, methods + OF_VALUES, (path, node.lineno))
+
+    def test_tables_at_module_level_are_not_passed_on(self):
+        for path, tree in trees():
+            tables = []
+            for node in tree.body:
+                if isinstance(node, ast.Assign) and isinstance(node.value, (ast.Dict, ast.List)):
+                    tables.append(node.targets[0].id)
+            for node in ast.walk(tree):
+                if isinstance(node, ast.Call) and getattr(node.func, "id", "") not in BUILTINS:
+                    for given in node.args + [keyword.value for keyword in node.keywords]:
+                        self.assertNotIn(getattr(given, "id", None), tables, (path, node.lineno))
 
     def test_words(self):
         for path, tree in trees():
