@@ -6,8 +6,7 @@ import unittest
 from failsalike.paths import cost, fetched
 from failsalike.stores import Store
 from tests.chance import KINDS, all_kinds, some_question, some_schema, some_store
-from tests.oracle import Oracle
-from tests.planning import some_course
+from tests.planning import path_rows, some_course
 from tests.everyvalue import goal_places
 from tests.shop import ONE, shop
 
@@ -146,28 +145,7 @@ class Fetched(unittest.TestCase):
         self.assertEqual(cost(empty, asked, ((1,), ("b", "a"), (first, first))), 1)
 
     def expected(self, store, asked, course, bound):
-        """What a path fetches, looked at row by row."""
-        alias, path = course[1][len(bound)], course[2][len(bound)]
-        table = dict(asked[0])[alias]
-        oracle = Oracle(store)
-        numbers = [number for number, _ in store.rows(table)]
-        if path[0] in ("rows", "first"):
-            return tuple(numbers if path[0] == "rows" else numbers[:1])
-        found = []
-        for number in numbers:
-            row = list(bound) + [(alias, table, number)]
-            value = oracle.eval(row, ("column", alias, path[1]), ())[1]
-            if path[0] == "between":
-                fits = isinstance(value, int) and path[2] <= value <= path[3]
-            else:
-                leaf = asked
-                for step in path[2]:
-                    leaf = leaf[step]
-                got = oracle.eval(row, leaf, path[2])
-                fits = {True: "true", False: "false"}.get(got[1], "fails") in path[3]
-            if fits:
-                found.append((oracle.rank(value), number))
-        return tuple(number for _, number in sorted(found))
+        return tuple(path_rows(store, asked, course, bound))
 
     def test_drawn_courses(self):
         rng = random.Random(31)

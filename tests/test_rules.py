@@ -8,7 +8,7 @@ from pathlib import Path
 
 PACKAGE = Path(__file__).resolve().parent.parent / "failsalike"
 
-# The files of the interface that have landed, and what each of them defines.
+# The files of the interface, and what each of them defines.
 INTERFACE = {
     "errors": "FailsError Failed NameTaken BadTable NoTable NoColumn BadRow KeyTaken NoRow NoQuestion NotPlain TooGreat"
     " NoPlan Outdated NoGoal NoCourse InvalidText InvalidCommand NothingAsked NoRun",
@@ -26,11 +26,18 @@ INTERFACE = {
     "papers": "paper_of paper_holds",
     "ledgers": "shapes_of can_fail alike true_plan never_holds alike_holds true_holds",
     "paths": "fetched cost",
+    "plans": "plan_holds facts_of chosen",
+    "runs": "Run",
+    "engine": "Engine",
+    "console": "Console",
 }
 # What the classes of the interface define in their own bodies.
 METHODS = {
     "facts": {"Facts": "__init__ __add__ __contains__ __eq__"},
     "stores": {"Store": "__init__ of make put take schema rows entries facts copy __eq__"},
+    "runs": {"Run": "__init__ step steps reads told frontier bound ended outcome stream"},
+    "engine": {"Engine": "__init__ ask choices"},
+    "console": {"Console": "__init__ say"},
 }
 # The methods of L25, which values of Python's own have.
 OF_VALUES = (
