@@ -30,7 +30,7 @@ class Console:
         if words[0] in OF_QUESTIONS or words[0] in OF_RUNS:
             numbers = [number_in(word) for word in words[1:]]
             return self._answer(words[0], numbers)
-        if words[0] == "ask" and len(words) > 1:
+        if words[0] == "ask":
             return self._ask(" ".join(words[1:]))
         if words[0] == "make":
             name, columns, keys, indexes = table_in(words[1:])

@@ -3,7 +3,7 @@
 import random
 import time
 import unittest
-from itertools import product
+from itertools import permutations, product
 
 from failsalike.atoms import contradiction, is_contradiction, settled, solution
 from tests.everyvalue import is_word, kind
@@ -191,6 +191,18 @@ class Atoms(unittest.TestCase):
         self.so(WORDS, ("other", A, "cup"), ("word", B, "cup"), ("unlike", A, B))
         self.not_so(WORDS, ("other", A, "cup"), ("same", A, B), ("same", C, B), ("word", C, "cup"))
         self.so(WORDS, ("word", A, "zzzzzzzz"), ("other", B, "zzzzzzzz"))
+
+    def test_words_in_every_order(self):
+        near = [(("unlike", A, C), ("unlike", C, A)), (("same", B, C), ("same", C, B)), (("same", A, B), ("same", B, A))]
+        for atoms in permutations(near):
+            for chosen in product(*atoms):
+                self.not_so(WORDS, *chosen)
+        fixed = [(("other", A, "cup"),), (("same", A, B), ("same", B, A)), (("word", B, "cup"),)]
+        for atoms in permutations(fixed):
+            for chosen in product(*atoms):
+                self.not_so(WORDS, *chosen)
+        for atoms in permutations((("unlike", A, B), ("same", B, C), ("word", C, "cup"), ("word", A, "cup"))):
+            self.not_so(WORDS, *atoms)
 
     def test_many_words_that_are_unlike(self):
         given = row(("word",))

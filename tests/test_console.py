@@ -134,6 +134,8 @@ class Forms(Saying):
             for line in (*OF_QUESTIONS, *OF_RUNS):
                 self.raises(f"{line} 1", InvalidCommand)
                 self.raises(f"{line} x", InvalidCommand)
+            for line in ("put  3", "take  0", "make  x:number", "put t  3", "put  t 3", "ask  from a in t tell a.x"):
+                self.raises(line, InvalidCommand)
             for line in ("make", "make x", "put", "put t", "take", "take t", "ask", "never", "step", "step 0", "quit", ""):
                 self.raises(line, InvalidCommand)
 

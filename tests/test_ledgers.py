@@ -202,6 +202,31 @@ class CanFail(Answers):
         for asked in (question(("less", AP, BP), refs=twice), question(inner, order=(AP,), limit=1)):
             self.assertFalse(self.never(asked, 1))
 
+    def test_there_are_no_ledgers_if_a_question_is_not_plain(self):
+        refs = (("a", "s"), ("b", "s"))
+        never = ("and", ("is", AP, "word"), ("is", AP, "number"))
+        asked = question(("and", never, ("less", AP, BP)), refs=refs)
+        ledger = can_fail(SCHEMA, asked, 1)[1]
+        self.assertTrue(never_holds(SCHEMA, asked, 1, ledger))
+        self.assertTrue(alike_holds(SCHEMA, asked, asked, ledger))
+        plan = ((((0, 1), ("a", "b"), (("rows",), ("rows",))),), (), ())
+        self.assertTrue(true_holds(SCHEMA, asked, plan, ledger))
+        for limited in ((*asked[:4], 3), (*asked[:3], (AP,), None), (*asked[:4], 0)):
+            self.assertFalse(never_holds(SCHEMA, limited, 1, ledger))
+            self.assertFalse(alike_holds(SCHEMA, limited, limited, ledger))
+            self.assertFalse(true_holds(SCHEMA, limited, plan, ledger))
+        # One of two that is not plain is enough, the first one or the second.
+        inner = ("exists", ((("c", "s"),), ("is", CP, "number")))
+        one, other = question(inner, limit=0), question(None, limit=0)
+        shapes = shapes_of(one, other)
+        ledger = tuple((shape, END) for shape in shapes)
+        self.assertTrue(alike_holds(SCHEMA, other, other, ((shapes_of(other)[0], END),)))
+        for pair in ((one, other), (other, one), (one, one)):
+            self.assertFalse(alike_holds(SCHEMA, *pair, ledger))
+            self.assertFalse(alike_holds(SCHEMA, *pair, ((shapes_of(other)[0], END),)))
+            with self.assertRaises(NotPlain):
+                alike(SCHEMA, *pair)
+
 
 class Alike(Answers):
     def test_the_examples(self):
@@ -264,6 +289,15 @@ class Alike(Answers):
         self.assertTrue(self.same(question(never, AP), question(never, AQ, AP)))
         self.assertTrue(self.same(question(None, AP, limit=0), question(("less", AP, AQ), AQ, AQ, limit=0)))
         self.assertFalse(self.same(question(None, AP, limit=1), question(None, AQ, limit=1)))
+        # A value that may have another kind is not equal to one that has a single kind.
+        for kinds in (KINDS, ("nothing", "number"), ("nothing", "word"), ("number", "word")):
+            schema = (("s", (("p", kinds), ("q", KINDS)), (), ()),)
+            for value in (None, 3, "a"):
+                self.assertFalse(self.same(question(None, AP), question(None, ("value", value)), schema))
+                self.assertFalse(self.same(question(None, ("value", value)), question(None, AP), schema))
+                ledger = (((("s", 1),), END),)
+                self.assertFalse(alike_holds(schema, question(None, AP), question(None, ("value", value)), ledger))
+            self.assertFalse(self.same(question(None, AP), question(None, AQ), schema))
         near = ("same", ("plus", AP, 1), AQ)
         self.assertTrue(self.same(question(near, ("plus", AP, 1)), question(near, AQ)))
 
@@ -300,6 +334,22 @@ class Alike(Answers):
         nothing = ("and", ("is", AP, "nothing"), ("is", BP, "nothing"))
         self.assertFalse(self.same(question(nothing, AQ, refs=refs), question(nothing, BQ, refs=refs)))
         self.assertTrue(self.same(question(nothing, AQ, refs=refs), question(nothing, BQ, refs=refs), keyed))
+
+    def test_keys_of_numbers_and_of_all_kinds(self):
+        refs = (("a", "s"), ("b", "s"))
+        one, other = question(None, AQ, refs=refs), question(None, BQ, refs=refs)
+        for kinds in (("number",), ("word",), ("nothing", "number"), KINDS):
+            keyed = (("s", (("p", kinds), ("q", KINDS)), ("p",), ()),)
+            self.assertFalse(self.same(one, other, keyed))
+            both = (("s", (("p", kinds), ("q", kinds)), ("p", "q"), ()),)
+            self.assertFalse(self.same(one, other, both))
+        near = ("and", ("less", AP, BP), ("less", BP, ("plus", AP, 2)))
+        keyed = (("s", (("p", ("number",)), ("q", KINDS)), ("p",), ()),)
+        self.assertFalse(self.same(question(near, AQ, refs=refs), question(near, BQ, refs=refs), keyed))
+        most = ("most", BP, AP)
+        self.assertFalse(self.same(question(most, AQ, refs=refs), question(most, BQ, refs=refs), keyed))
+        nothing = (("s", (("p", ("nothing",)), ("q", KINDS)), ("p",), ()),)
+        self.assertTrue(self.same(one, question(None, AQ, refs=refs), nothing))
 
     def test_other_refs_orders_and_limits(self):
         one = question(None)

@@ -14,7 +14,7 @@ from tests.everyvalue import EveryPaper, goal_number, goal_places, has_inner, ma
 from tests.oracle import Oracle
 from tests.samples import anything, nested
 from tests.shop import ONE, TWO, shop
-from tests.spoiling import spoiled
+from tests.spoiling import NODES, part_of, places, spoiled
 
 R = 10**12
 SCHEMA = (
@@ -407,6 +407,11 @@ class Papers(unittest.TestCase):
         self.assertFalse(self.holds(asked, 0, tree))
 
 
+def is_tree_at(tree, place):
+    part = part_of(tree, place)
+    return isinstance(part, tuple) and part[:1] != () and part[0] in NODES
+
+
 class Limits(unittest.TestCase):
     def test_too_great(self):
         asked = question(("and", ("less", P, N), ("less", Q, N)))
@@ -419,6 +424,12 @@ class Limits(unittest.TestCase):
             except TooGreat as error:
                 self.assertEqual(error.limit, limit)
                 self.assertLess(limit, 100)
+
+    def test_as_many_parts_as_the_limit(self):
+        self.assertEqual(paper_of(SCHEMA, question(("less", N, N)), 1, limit=1), END)
+        asked = question(("and", ("is", P, "number"), ("less", P, N)))
+        paper = paper_of(SCHEMA, asked, 1)
+        self.assertEqual(paper, paper_of(SCHEMA, asked, 1, limit=len([at for at in places(paper) if is_tree_at(paper, at)])))
 
     def test_never_too_great_for_three_leaves(self):
         rng = random.Random(9)

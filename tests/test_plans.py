@@ -76,6 +76,12 @@ class PlanHolds(unittest.TestCase):
             plan = (((goals, ("i", "s"), (ROWS, ROWS)), COURSE), (), ())
             self.assertIs(plan_holds(schema, ONE, plan), is_right, goals)
 
+    def test_courses_without_goals(self):
+        schema = shop().schema
+        for goals, is_right in (((0,), True), ((), False), ((0, 1, 2), True)):
+            plan = ((REST, COURSE, (goals, ("i", "s"), (ROWS, ROWS))), (), ())
+            self.assertIs(plan_holds(schema, ONE, plan), is_right)
+
     def test_orders(self):
         schema = shop().schema
         for order, is_right in (
@@ -410,6 +416,16 @@ class Chosen(unittest.TestCase):
         self.assertEqual(self.check(store, asked)[0], (((0,), ("a", "b"), paths),))
         fails = question(("and", ("is", AP, "word"), ("less", AP, ("value", "a"))))
         self.assertEqual(self.check(store, fails)[0][1], ((1,), ("a", "b"), (("index", "p", (1, 1), ("true",)), FIRST)))
+        # Not even how many rows they have.
+        where = ("and", ("is", ("column", "b", "p"), "word"), ("and", ("is", AP, "number"), ("is", AQ, "word")))
+        third = question(where, refs=(("b", "t"), ("a", "s")))
+        self.assertEqual(self.check(store, third)[0], (((0,), ("a", "b"), (
+            ("index", "q", (1, 2, 2), ("true",)), ("index", "p", (1, 1), ("true",)))),))
+        store.put("s", None, 5)
+        where = ("and", ("is", AP, "word"), ("and", ("is", BP, "number"), ("is", BQ, "word")))
+        fourth = question(where, refs=(("a", "t"), ("b", "s")))
+        self.assertEqual(self.check(store, fourth)[0], (((0,), ("a", "b"), (
+            ("index", "p", (1, 1), ("true",)), ("index", "p", (1, 2, 1), ("true",)))),))
         empty = question(None, refs=(("a", "s"), ("b", "u"), ("c", "t")))
         self.assertEqual(self.check(store, empty)[0][0], ((0,), ("b", "a", "c"), (ROWS, ROWS, ROWS)))
 

@@ -134,6 +134,14 @@ class Steps(Together):
         self.assertEqual(len(self.run.told), 5)
         self.end()
 
+    def test_the_worker_and_the_course_that_are_meant(self):
+        store = store_of(s=[1, 2], t=[3, 4])
+        asked = question(None)
+        run = Run(store, asked, everything(asked, ("a", "b"), ("b", "a")))
+        self.assertEqual([run.step(), run.step(0, 0), run.step(0, 1), run.step(course=0)],
+                         [("a", 0), ("b", 0), ("a", 1), ("b", 1)])
+        self.assertEqual([run.step(1), run.step(worker=1)], [("b", 0), ("b", 0)])
+
     def test_the_row_of_the_frontier(self):
         # Two courses find the match; it is told while the other one has still to find it.
         store = store_of(s=[1], t=[3])
