@@ -5,7 +5,7 @@ A verdict is a pair: "on" if the next combination is to be looked at, "right" if
 """
 
 from failsalike.goals import goal_among, goals_of
-from failsalike.settling import Unsettled, View, all_hold, are_equal, result_seen
+from failsalike.settling import Unsettled, View, all_hold, are_equal, has_kind, result_seen
 from failsalike.states import narrowed_by
 from failsalike.trees import states_behind
 
@@ -58,10 +58,12 @@ class Alike:
 class Fetching:
     """The claim that the runs by a plan have outcomes alike to that of the written run."""
 
-    def __init__(self, question, plan):
+    def __init__(self, question, plan, is_careful):
         self.question = question
         self.courses = plan[0]
         self.places = goals_of(question)
+        # Whether a between path asks for the kind of a value even if no number of its range is left.
+        self.is_careful = is_careful
 
     def verdict(self, rows, state, combination):
         """Whether the claim is so for a combination, if it is so for those before."""
@@ -72,7 +74,8 @@ class Fetching:
             return ON
         goal = goal_among(self.places, result)
         courses = [course for course in self.courses if goal in course[0]]
-        missed = differing(rows, state, lambda held: is_fetched(held, courses, combination))
+        careful = self.is_careful
+        missed = differing(rows, state, lambda held: is_fetched(held, courses, combination, careful))
         if missed is not None:
             return ("wrong", missed)
         return RIGHT if result[0] == "fails" else ON
@@ -121,16 +124,16 @@ def sought(states, check):
     return None
 
 
-def is_fetched(state, courses, combination):
+def is_fetched(state, courses, combination, careful):
     """Whether some of the courses fetches a combination; all between paths of a course are settled."""
-    for course in courses:
-        fetching = [is_taken(state, combination[alias], path) for alias, path in zip(course[1], course[2])]
+    for _, order, paths in courses:
+        fetching = [is_taken(state, combination[alias], path, careful) for alias, path in zip(order, paths)]
         if all(fetching):
             return True
     return False
 
 
-def is_taken(state, row, path):
+def is_taken(state, row, path, careful):
     """Whether a path fetches a row, that of an index path being one that its course needs."""
     if path[0] == "first":
         return row[1] == 0
@@ -138,8 +141,8 @@ def is_taken(state, row, path):
         return True
     unknown, low, high = (*row, path[1]), path[2], path[3]
     tests = [("most", unknown, (), high), ("most", (), unknown, -low)]
-    if narrowed_by(state, tests).is_void:
+    if not careful and narrowed_by(state, tests).is_void:
         return False
-    if state.kinds_of(unknown) != ("number",):
-        raise Unsettled(("kind", unknown))
+    if not has_kind(state, (unknown, 0), "number"):
+        return False
     return all_hold([(state.settled_alone(test), test) for test in tests])

@@ -72,7 +72,9 @@ def true_plan(schema, question, plan, *, limit=2000):
         raise NotPlain()
     if not is_accepted_form(schema, question, plan):
         raise NoPlan()
-    return answered(cases_of(schema, plan[2], [question], Fetching(question, plan)), limit, "true", "untrue")
+    # A tree that asks for each kind first shows more than it must, and is easier to check.
+    cases = cases_of(schema, plan[2], [question], Fetching(question, plan, True))
+    return answered(cases, limit, "true", "untrue")
 
 
 def never_holds(schema, question, goal, thing):
@@ -93,7 +95,7 @@ def true_holds(schema, question, plan, thing):
     """Whether this is a ledger that a plan tells what the written run tells."""
     if not is_plain(question) or not is_accepted_form(schema, question, plan):
         return False
-    return is_ledger(cases_of(schema, plan[2], [question], Fetching(question, plan)), thing)
+    return is_ledger(cases_of(schema, plan[2], [question], Fetching(question, plan, False)), thing)
 
 
 def cases_of(schema, facts, questions, claim):

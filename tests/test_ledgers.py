@@ -439,6 +439,22 @@ class TruePlan(Answers):
         tree = ("kind", Q, END, ("most", Q, (), 1, ("most", (), Q, 0, END, END), END), END)
         self.assertTrue(true_holds(SCHEMA, two, both, ((shape, tree),)))
 
+    def test_between_paths_that_fetch_nothing(self):
+        # No number of its range is left: what kind the value has need not be settled.
+        asked = question(("is", AQ, "number"))
+        facts = (("no", "s", "p", "word"), ("within", "s", "p", 5, 9))
+        never = ((0,), ("a",), (("between", "p", 0, 3, (None,)),))
+        plan = ((never, ((0,), ("a",), (self.ROWS,))), (), facts)
+        self.assertTrue(self.true(asked, plan))
+        kind = ("kind", ("s", 0, "q"), END, END, END)
+        self.assertTrue(true_holds(SCHEMA, asked, plan, (((("s", 1),), kind),)))
+        self.assertFalse(true_holds(SCHEMA, asked, plan, (((("s", 1),), END),)))
+        self.assertFalse(self.true(asked, ((never,), (), facts)))
+        word = ((0,), ("a",), (("between", "p", 5, 8, (None,)),))
+        plan = ((word, ((0,), ("a",), (self.ROWS,))), (), facts)
+        self.assertTrue(self.true(asked, plan))
+        self.assertFalse(true_holds(SCHEMA, asked, plan, (((("s", 1),), kind),)))
+
     def test_first_paths(self):
         refs = (("a", "s"), ("b", "s"))
         asked = question(("less", AP, ("value", 3)), refs=refs)
