@@ -449,11 +449,16 @@ class TruePlan(Answers):
         kind = ("kind", ("s", 0, "q"), END, END, END)
         self.assertTrue(true_holds(SCHEMA, asked, plan, (((("s", 1),), kind),)))
         self.assertFalse(true_holds(SCHEMA, asked, plan, (((("s", 1),), END),)))
+        self.assertIn(("kind", ("s", 0, "p")), [node[:2] for node in self.nodes(true_plan(SCHEMA, asked, plan)[1][0][1])])
         self.assertFalse(self.true(asked, ((never,), (), facts)))
+        self.assertFalse(true_holds(SCHEMA, asked, ((never,), (), facts), (((("s", 1),), kind),)))
         word = ((0,), ("a",), (("between", "p", 5, 8, (None,)),))
         plan = ((word, ((0,), ("a",), (self.ROWS,))), (), facts)
         self.assertTrue(self.true(asked, plan))
         self.assertFalse(true_holds(SCHEMA, asked, plan, (((("s", 1),), kind),)))
+
+    def nodes(self, tree):
+        return [tree] + [node for part in tree if isinstance(part, tuple) and part[:1] != () for node in self.nodes(part)]
 
     def test_first_paths(self):
         refs = (("a", "s"), ("b", "s"))
